@@ -1,0 +1,99 @@
+"""The names, arguments and places of definition that the interface lists."""
+
+import importlib
+import inspect
+import unittest
+
+from hoproads import errors
+
+INTERFACE = {
+    "roads": ["is_row(value)", "are_rates(value)", "hops_of(row)", "hopped(row, hop)", "hop_back(row, hop)",
+              "hop_rate(rates, hop)", "rate_away(row, rates)"],
+    "shares": ["are_shares(places, value)", "are_steady(rates, places, shares)",
+               "unsteady_rows(rates, places, shares)"],
+    "weights": ["is_weight(value)", "weight_sum(weight, other)", "weight_product(weight, other)",
+                "weight_value(rates, weight)", "row_weight(row)", "whole_weight(places)"],
+    "steady": ["share_of(rates, row)", "steady_shares(rates, places)", "share_with(rates, places, place)",
+               "flow(rates, places)"],
+    "stairs": ["cells_of(row)", "mirrored_row(row)", "is_table(row, value)", "open_cells(row, table)",
+               "lost_cells(row, table)", "struck_cars(row, table)", "struck_gaps(row, table)",
+               "table_weight(row, table)", "mirrored_table(row, table)"],
+    "stairlists": ["tables_of(row)", "count_tables(row)", "all_tables(places)", "count_all_tables(places)",
+                   "table_number(row, table)", "table_with(places, number)"],
+    "words": ["is_word(value)", "ordered(word)", "changes_of(word)", "changed(word, place)", "word_row(word)",
+              "row_word(row)", "word_weight(word)", "mirrored_word(word)"],
+    "wordsums": ["is_ordered_sum(value)", "sum_added(one, two)", "sum_times(one, two)", "power_of_both(letters)",
+                 "sum_weight(one)", "sum_mirrored(one)", "sum_at(one, number)"],
+    "wordblocks": ["block_sum(cars, gaps)", "block_straight(cars, gaps)", "count_block(cars, gaps)"],
+    "wordtrees": ["is_word_tree(word, value)", "word_tree(word)", "count_word_trees(word)", "tree_ends(word, tree)",
+                  "tree_depth(word, tree)", "least_depth(word)"],
+    "wordgrids": ["letter_grid(letter, size)", "word_grid(word, size)", "grid_weight(word)"],
+    "orders": ["is_order(value)", "row_by_crossings(order)", "crossings_of(order)", "tops_of(order)",
+               "lows_of(order)", "crossing_weight(order)"],
+    "orderfalls": ["row_by_falls(order)", "patterns_of(order)", "late_lows(order)", "late_tops(order)",
+                   "pattern_weight(order)"],
+    "tablewalks": ["turning_cells(row, table)", "walk_from(row, table, step)", "order_by_walks(row, table)",
+                   "table_by_walks(order)", "mirrored_order(order)"],
+}
+
+WITH_MESSAGE = """
+    InvalidRow InvalidRates InvalidPlaces InvalidPlace InvalidHop InvalidShares InvalidWeight InvalidTable
+    InvalidNumber InvalidWord InvalidSum InvalidWordTree InvalidOrder InvalidSteps InvalidTrail InvalidHeight
+    InvalidPolynomial InvalidMoments InvalidHistory InvalidBoard InvalidHops InvalidLine InvalidSlot InvalidSpent
+    InvalidBrackets InvalidEnds InvalidWheel InvalidCounts InvalidQueueLines InvalidQueueLine InvalidSort TooFew
+    InvalidWaits InvalidTimes InvalidGate InvalidCar InvalidTime InvalidSequence InvalidFacts InvalidFlows
+    InvalidPaper InvalidState InvalidStep InvalidScript InvalidText Stuck NothingToUndo NothingToRedo Unlike
+""".split()
+
+
+class Interface(unittest.TestCase):
+    def test_functions_are_defined_in_their_files_with_their_arguments(self):
+        for module, functions in INTERFACE.items():
+            loaded = importlib.import_module(f"hoproads.{module}")
+            for told in functions:
+                with self.subTest(module=module, told=told):
+                    function = getattr(loaded, told.partition("(")[0])
+                    self.assertTrue(inspect.isfunction(function))
+                    self.assertEqual(function.__module__, f"hoproads.{module}")
+                    self.assertEqual(function.__name__ + str(inspect.signature(function)), told)
+
+
+class Errors(unittest.TestCase):
+    def test_all_listed_errors_are_direct_subclasses_of_the_base_class(self):
+        self.assertEqual(errors.HopError.__bases__, (ValueError,))
+        for name in WITH_MESSAGE + ["TooMany"]:
+            with self.subTest(name=name):
+                some = getattr(errors, name)
+                self.assertEqual(some.__bases__, (errors.HopError,))
+                self.assertEqual(some.__module__, "hoproads.errors")
+                self.assertEqual(some.__name__, name)
+
+    def test_there_are_no_further_errors(self):
+        listed = {name for name, value in vars(errors).items() if isinstance(value, type)}
+        self.assertEqual(listed, set(WITH_MESSAGE) | {"HopError", "TooMany"})
+        self.assertEqual(len(WITH_MESSAGE), 49)
+
+    def test_each_takes_a_message(self):
+        for name in WITH_MESSAGE + ["HopError"]:
+            with self.subTest(name=name):
+                error = getattr(errors, name)("some message")
+                self.assertEqual(str(error), "some message")
+                self.assertEqual(error.args, ("some message",))
+
+    def test_too_many_takes_its_limit(self):
+        for limit in (6, 0, 10000, 10 ** 30):
+            self.assertEqual(errors.TooMany(limit).limit, limit)
+            self.assertTrue(errors.TooMany(limit).args)
+        with self.assertRaises(TypeError):
+            errors.TooMany()
+
+    def test_each_can_be_raised_and_caught_by_the_base_class(self):
+        for name in WITH_MESSAGE:
+            with self.assertRaises(errors.HopError):
+                raise getattr(errors, name)("some message")
+        with self.assertRaises(ValueError):
+            raise errors.TooMany(3)
+
+
+if __name__ == "__main__":
+    unittest.main()
