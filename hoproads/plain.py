@@ -5,7 +5,7 @@ Fractions are pairs (top, below) without a common divisor above 1, below from 1 
 
 from math import gcd
 
-from hoproads.errors import TooMany
+from hoproads.errors import InvalidNumber, TooMany
 
 
 def is_integer(value):
@@ -43,6 +43,12 @@ def are_terms(value, limit, bounds):
     return all([value[at - 1][:3] < value[at][:3] for at in range(1, len(value))])
 
 
+def check_number(number, least, most):
+    """Raise InvalidNumber for what is no integer within two bounds."""
+    if not is_from_to(number, least, most):
+        raise InvalidNumber(f"an integer from {least} to {most} is asked for")
+
+
 def check_most(many, limit):
     """Raise TooMany if there are more things than a limit lets."""
     if many > limit:
@@ -65,9 +71,16 @@ def times(one, other):
     return reduced(one[0] * other[0], one[1] * other[1])
 
 
+def less(one, other):
+    """A fraction less another one."""
+    return reduced(one[0] * other[1] - other[0] * one[1], one[1] * other[1])
+
+
 def divided(one, other):
-    """The quotient of a fraction and of one above 0."""
-    return reduced(one[0] * other[1], one[1] * other[0])
+    """The quotient of a fraction and of one that is not 0."""
+    top = one[0] * other[1]
+    below = one[1] * other[0]
+    return reduced(top, below) if below > 0 else reduced(-top, -below)
 
 
 def total_of(fractions):

@@ -69,11 +69,11 @@ def hops_of(row):
     return backs + enters + ons + leaves
 
 
-def is_hop_form(value):
-    """Whether any value is a pair of a string and an integer, as hops are."""
+def is_hop_form(value, places=MOST_PLACES):
+    """Whether any value is a pair of a string and a place of so many, as hops are."""
     if not isinstance(value, tuple) or len(value) != 2:
         return False
-    return isinstance(value[0], str) and is_from_to(value[1], 0, MOST_PLACES - 1)
+    return isinstance(value[0], str) and is_from_to(value[1], 0, places - 1)
 
 
 def check_hop(row, hop):

@@ -2,9 +2,8 @@
 
 from math import comb, factorial
 
-from hoproads.plain import terms_from
+from hoproads.plain import check_number, terms_from
 from hoproads.words import terms_of_word
-from hoproads.wordsums import check_number
 
 MOST_IN_SUM = 6
 MOST_IN_COUNT = 60

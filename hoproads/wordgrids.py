@@ -1,10 +1,9 @@
 """Grids of letters and words."""
 
 from hoproads.errors import InvalidWord
-from hoproads.plain import check_most, sum_of_terms
+from hoproads.plain import check_most, check_number, sum_of_terms
 from hoproads.weights import ONE, product_of_weights
 from hoproads.words import check_word
-from hoproads.wordsums import check_number
 
 MOST_SIZE = 12
 MOST_LETTERS_OF_GRIDS = 5

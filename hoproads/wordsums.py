@@ -1,7 +1,7 @@
 """Ordered sums: sums, products, powers, and what they come to."""
 
-from hoproads.errors import InvalidNumber, InvalidSum
-from hoproads.plain import are_terms, is_from_to, powers_of, sum_of_terms, terms_from
+from hoproads.errors import InvalidSum
+from hoproads.plain import are_terms, check_number, powers_of, sum_of_terms, terms_from
 from hoproads.weights import terms_of_all_rows, weight_of_terms, with_gap
 
 MOST_TERMS = 500
@@ -27,12 +27,6 @@ def check_factor(one):
     """Raise InvalidSum for what is no ordered sum within the closer bounds of products."""
     if not are_terms(one, MOST_FACTOR_TERMS, FACTOR_BOUNDS):
         raise InvalidSum("an ordered sum is asked for, of at most 80 terms, of short words")
-
-
-def check_number(number, least, most):
-    """Raise InvalidNumber for what is no integer within two bounds."""
-    if not is_from_to(number, least, most):
-        raise InvalidNumber(f"an integer from {least} to {most} is asked for")
 
 
 def sum_added(one, two):

@@ -118,3 +118,51 @@ def table_weight_told(row, table):
     gaps = [place for place, item in enumerate(row) if item == 0 and place not in struck]
     cars = [place for place, item in enumerate(row) if item == 1 and place not in struck]
     return ((len(still_open), len(gaps), len(cars), 1),)
+
+
+def trails_told(steps):
+    """The ascending list of all trails of so many steps, out of all choices of steps."""
+    found = []
+    for trail in itertools.product((-1, 0, 1), repeat=steps):
+        heights = list(itertools.accumulate(trail, initial=0))
+        if min(heights) >= 0 and heights[-1] == 0:
+            found.append(trail)
+    return found
+
+
+def count_told(back, height):
+    return sum((back ** power for power in range(height)), Fraction(0))
+
+
+def level_told(rates, height):
+    """The level weight of a height by [22], a Fraction."""
+    entering, leaving, back = [Fraction(*rate) for rate in rates]
+    return (1 / entering + 1 / leaving) * back ** height + 2 * count_told(back, height)
+
+
+def fall_told(rates, height):
+    """The fall weight of a height by [22], a Fraction."""
+    entering, leaving, q = [Fraction(*rate) for rate in rates]
+    a, b = 1 / entering, 1 / leaving
+    inner = count_told(q, height - 1) + q ** (height - 1) * (a + b + q * a * b - a * b)
+    return count_told(q, height) * inner
+
+
+def ways_told(rates, low, high, steps, known=None):
+    """The sum of the weights of all ways of so many steps from a height to another one, a Fraction."""
+    known = {} if known is None else known
+    key = (low, steps)
+    if key not in known:
+        if steps == 0:
+            known[key] = Fraction(int(low == high))
+        else:
+            total = ways_told(rates, low + 1, high, steps - 1, known)
+            total += level_told(rates, low) * ways_told(rates, low, high, steps - 1, known)
+            if low > 0:
+                total += fall_told(rates, low) * ways_told(rates, low - 1, high, steps - 1, known)
+            known[key] = total
+    return known[key]
+
+
+def moment_told(rates, steps):
+    return ways_told(rates, 0, 0, steps)

@@ -12,6 +12,11 @@ NARROW = ((1, 1000), (1000, 999), (1000, 1))
 ODD = ((7, 5), (3, 8), (2, 1))
 FULL = ((3, 4), (5, 6), (1, 1))
 ALL_RATES = (R, S, WIDE, NARROW, ODD, FULL)
+# rates with a fall weight of 1 below 0, with one of 1 that is 0, and with one of 2 that is 0
+BELOW = ((1, 3), (2, 5), (0, 1))
+NO_FALL = ((1, 2), (1, 2), (0, 1))
+NO_SECOND_FALL = ((1, 6), (1, 4), (1, 2))
+FALL_RATES = ALL_RATES + (BELOW, NO_FALL, NO_SECOND_FALL)
 
 BIG = 10 ** 120 - 1
 
@@ -47,6 +52,11 @@ WRONG_RATES = STRAYS + [
     ((1, 1), (1, 1), (False, 1)), [(1, 1), (1, 1), (0, 1)], ([1, 1], (1, 1), (0, 1)), ((1, 1), (1, 1), [0, 1]),
     ((1,), (1, 1), (0, 1)), ((1, 1, 1), (1, 1), (0, 1)), (1, 1, 0), ("11", (1, 1), (0, 1)), ((1, 1), (1, 1), None),
     ((1, 1), ("1", "1"), (0, 1)),
+]
+
+NO_FRACTIONS = STRAYS + [
+    (), (1,), (1, 1, 1), [1, 1], (2, 2), (0, 2), (1, 0), (0, 0), (1, -1), (-2, -3), (3, 6), (BIG, BIG), (True, 1),
+    (1, True), (False, 1), (1, None), ("1", 1), "11", ((1, 1),), (1, [1]),
 ]
 
 WRONG_PLACES = NO_INTEGERS + [0, -1, 13, 14, BIG, -BIG]

@@ -34,6 +34,18 @@ INTERFACE = {
                    "pattern_weight(order)"],
     "tablewalks": ["turning_cells(row, table)", "walk_from(row, table, step)", "order_by_walks(row, table)",
                    "table_by_walks(order)", "mirrored_order(order)"],
+    "melting": ["melted_once(order, place)", "melted(order)", "melted_back(row, table)", "count_exchanges(order)",
+                "early_tops(order)", "dips_of(order)", "melting_weight(order)", "order_alike(order)"],
+    "orderlists": ["orders_crossing(row)", "orders_falling(row)", "joint_crossings(places)", "joint_patterns(places)",
+                   "joint_ends(places)"],
+    "trails": ["is_trail(value)", "trail_heights(trail)", "trails_of(steps)", "count_trails(steps)",
+               "trail_number(trail)", "trail_with(steps, number)"],
+    "trailweights": ["level_weight(rates, height)", "fall_weight(rates, height)", "trail_weight(rates, trail)",
+                     "moment(rates, steps)", "weight_between(rates, low, high, steps)", "far_flow(rates, places)"],
+    "trailbasis": ["step_polynomial(rates, degree)", "polynomial_mean(rates, polynomial)",
+                   "polynomial_product(one_row, other_row)"],
+    "traildeterminants": ["moment_table(rates, size, shift)", "determinant(table_so)", "steps_told(value)"],
+    "trailfractions": ["cut_fraction(rates, depth)", "quotient_row(top, below, many)"],
 }
 
 WITH_MESSAGE = """

@@ -209,6 +209,23 @@ class Language(unittest.TestCase):
                 if isinstance(node, ast.Name):
                     self.assertIsNone(BARRED_WORDS.search(node.id), (name, node.id))
 
+    def test_stars_in_calls(self):
+        for name, tree in trees().items():
+            for node in ast.walk(tree):
+                if isinstance(node, ast.Call):
+                    for some in node.args:
+                        if isinstance(some, ast.Starred):
+                            self.assertIsInstance(some.value, (ast.Name, ast.Attribute, ast.List, ast.Tuple),
+                                                  (name, node.lineno))
+
+    def test_every_name_of_a_file_is_used(self):
+        loaded = trees()
+        asked = {some for tree in loaded.values() for some in imported(tree)}
+        for name, tree in loaded.items():
+            read = {node.id for node in ast.walk(tree) if isinstance(node, ast.Name) and isinstance(node.ctx, ast.Load)}
+            own = {target.id for node in tree.body if isinstance(node, ast.Assign) for target in node.targets}
+            self.assertLessEqual(own, read | asked, name)
+
     def test_calls_of_builtins(self):
         for name, tree in trees().items():
             for node in ast.walk(tree):
