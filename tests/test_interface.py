@@ -46,6 +46,22 @@ INTERFACE = {
                    "polynomial_product(one_row, other_row)"],
     "traildeterminants": ["moment_table(rates, size, shift)", "determinant(table_so)", "steps_told(value)"],
     "trailfractions": ["cut_fraction(rates, depth)", "quotient_row(top, below, many)"],
+    "histories": ["is_history(value)", "histories_of(steps)", "count_histories(steps)", "history_weight(history)",
+                  "histories_weight(steps)"],
+    "tablehops": ["is_board(value)", "is_plain_hop(board, hop)", "board_hopped(board, hop)", "board_left(board, hop)",
+                  "hops_to(board)", "board_mirrored(board)", "hop_mirrored(places, hop)"],
+    "tablerounds": ["round_of(small)", "round_hops(small)", "rounds_with(board)", "led_round(board, hop, times)",
+                    "count_rounds(places)"],
+    "tableflows": ["leads_away(rates, board)", "leads_to(rates, board)", "board_share(rates, board)",
+                   "board_shares(rates, places)", "are_boards_steady(rates, places, shares)"],
+    "tableways": ["boards_along(board, hops)", "back_along(board, hops)", "hops_between(board, other)"],
+    "lines": ["is_line(value)", "line_row(line)", "line_weight(line)", "lines_of(row)", "count_lines(row)",
+              "count_touching(row, zeros, last)", "all_lines(places)", "count_all_lines(places)", "line_number(line)",
+              "line_with(places, number)"],
+    "linemoves": ["line_opened(line, slot)", "line_closed(line, hop)", "slot_ring(line)", "line_hops(line)",
+                  "line_hopped(line, hop)", "lines_before(line)"],
+    "lineforms": ["spent_of(line)", "line_of_spent(row, value)", "is_spent(row, value)", "brackets_of(line)",
+                  "line_of_brackets(value)"],
 }
 
 WITH_MESSAGE = """
