@@ -5,7 +5,6 @@ from hoproads.plain import check_most, is_from_to
 
 MOST_STEPS = 24
 MOST_STEPS_OF_A_LIST = 9
-STEPS = (-1, 0, 1)
 
 
 def heights_of(steps):
@@ -53,11 +52,10 @@ def ways_home(steps):
     return ways
 
 
-def ways_by_step(ways, left, height):
-    """The list of how many ways from a height, of so many steps, begin with a step down, level, and up."""
+def ways_ahead(ways, left, height):
+    """The list of how many ways from a height, of so many steps, begin with a step down, and with one level."""
     lower = ways[left - 1][height - 1] if height > 0 else 0
-    higher = ways[left - 1][height + 1] if height + 1 < len(ways) else 0
-    return [lower, ways[left - 1][height], higher]
+    return [lower, ways[left - 1][height]]
 
 
 def trails_of(steps):
@@ -66,7 +64,7 @@ def trails_of(steps):
     check_most(steps, MOST_STEPS_OF_A_LIST)
     trails = [()]
     for left in range(steps - 1, -1, -1):
-        longer = [trail + (step,) for trail in trails for step in STEPS]
+        longer = [trail + (step,) for trail in trails for step in (-1, 0, 1)]
         trails = [trail for trail in longer if 0 <= sum(trail) <= left]
     return trails
 
@@ -84,8 +82,8 @@ def trail_number(trail):
     heights = heights_of(trail)
     number = 0
     for at, step in enumerate(trail):
-        by_step = ways_by_step(ways, len(trail) - at, heights[at])
-        number = number + sum(by_step[:STEPS.index(step)])
+        many = ways_ahead(ways, len(trail) - at, heights[at])
+        number = number + sum(many[:step + 1])
     return number
 
 
@@ -99,11 +97,11 @@ def trail_with(steps, number):
     height = 0
     ahead = number
     for left in range(steps, 0, -1):
-        by_step = ways_by_step(ways, left, height)
-        at = 0
-        while ahead >= by_step[at]:
-            ahead = ahead - by_step[at]
-            at = at + 1
-        trail.append(STEPS[at])
-        height = height + STEPS[at]
+        many = ways_ahead(ways, left, height)
+        step = -1
+        while step < 1 and ahead >= many[step + 1]:
+            ahead = ahead - many[step + 1]
+            step = step + 1
+        trail.append(step)
+        height = height + step
     return tuple(trail)
