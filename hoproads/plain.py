@@ -3,7 +3,7 @@
 Fractions are pairs (top, below) without a common divisor above 1, below from 1 on.
 """
 
-from math import gcd
+from math import gcd, lcm
 
 from hoproads.errors import InvalidNumber, TooMany
 
@@ -85,10 +85,16 @@ def divided(one, other):
 
 def total_of(fractions):
     """The sum of a list of fractions."""
-    total = (0, 1)
+    # over one common below, as sums put into lowest terms one by one take long for many great belows
+    below = 1
     for one in fractions:
-        total = added(total, one)
-    return total
+        below = lcm(below, one[1])
+    return reduced(sum([one[0] * (below // one[1]) for one in fractions]), below)
+
+
+def is_below(one, other):
+    """Whether a fraction is less than another one."""
+    return one[0] * other[1] < other[0] * one[1]
 
 
 def powers_of(base, most):

@@ -2,6 +2,7 @@
 
 import importlib
 import inspect
+import pathlib
 import unittest
 
 from hoproads import errors
@@ -62,6 +63,23 @@ INTERFACE = {
                   "line_hopped(line, hop)", "lines_before(line)"],
     "lineforms": ["spent_of(line)", "line_of_spent(row, value)", "is_spent(row, value)", "brackets_of(line)",
                   "line_of_brackets(value)"],
+    "oneway": ["count_ends(places, zeros, last)", "oneway_whole(ends, far_places)", "oneway_flow(ends, far_places)",
+               "endless_flow(ends)", "oneway_share(ends, row)", "oneway_car(ends, far_places, place)"],
+    "wheels": ["is_wheel(value)", "sort_counts(wheel)", "wheel_hops(wheel)", "wheel_hopped(wheel, place)",
+               "wheel_sources(wheel)", "wheel_turned(wheel, steps)", "wheel_mirrored(wheel)",
+               "sorts_joined(wheel, sort)", "wheels_with(counts)", "count_wheels(counts)"],
+    "queuelines": ["are_queue_lines(value)", "wheel_of(lines)", "served(wheel, line)", "queue_lines_rung(lines, place)",
+                   "bells_to(lines)", "count_queue_lines(counts)", "queue_lines_for(wheel)",
+                   "count_queue_lines_for(wheel)"],
+    "ringshares": ["share_of_wheel(wheel)", "steady_wheels(counts)", "are_steady_wheels(counts, shares)",
+                   "pair_share(counts, one, other)", "sort_flow(counts, sort)"],
+    "waits": ["are_waits(value)", "times_of(waits)", "begins_of(waits)", "last_time(waits)", "are_times(value)",
+              "waits_of(times)", "passings(waits)", "hops_by(waits, time)", "road_at(waits, time)",
+              "line_at(waits, gate, time)", "hop_words(waits)"],
+    "longways": ["longest_way(waits)", "is_longest(waits, value)", "slacks_of(waits)", "sure_pairs(waits)",
+                 "ways_sum(waits, many)"],
+    "gatechanges": ["gates_exchanged(waits, gate)", "cars_exchanged(waits, car)", "gates_led(waits, order)",
+                    "cars_led(waits, order)", "totals_of(waits)"],
 }
 
 WITH_MESSAGE = """
@@ -84,6 +102,16 @@ class Interface(unittest.TestCase):
                     self.assertTrue(inspect.isfunction(function))
                     self.assertEqual(function.__module__, f"hoproads.{module}")
                     self.assertEqual(function.__name__ + str(inspect.signature(function)), told)
+
+
+    def test_no_other_file_defines_a_function_of_the_same_name(self):
+        own = {told.partition("(")[0]: module for module, functions in INTERFACE.items() for told in functions}
+        self.assertEqual(len(own), sum(len(functions) for functions in INTERFACE.values()))
+        for path in (pathlib.Path(__file__).resolve().parent.parent / "hoproads").glob("*.py"):
+            loaded = importlib.import_module(f"hoproads.{path.stem}" if path.stem != "__init__" else "hoproads")
+            for name, value in vars(loaded).items():
+                if name in own and inspect.isfunction(value):
+                    self.assertEqual(value.__module__, f"hoproads.{own[name]}", (path.stem, name))
 
 
 class Errors(unittest.TestCase):
