@@ -83,13 +83,19 @@ def divided(one, other):
     return reduced(top, below) if below > 0 else reduced(-top, -below)
 
 
-def total_of(fractions):
-    """The sum of a list of fractions."""
-    # over one common below, as sums put into lowest terms one by one take long for many great belows
+def over_one_below(fractions):
+    """The pair of the tops of a list of fractions over the least common below, and of this below."""
     below = 1
     for one in fractions:
         below = lcm(below, one[1])
-    return reduced(sum([one[0] * (below // one[1]) for one in fractions]), below)
+    return ([one[0] * (below // one[1]) for one in fractions], below)
+
+
+def total_of(fractions):
+    """The sum of a list of fractions."""
+    # sums put into lowest terms one by one would take long for many great belows
+    tops, below = over_one_below(fractions)
+    return reduced(sum(tops), below)
 
 
 def is_below(one, other):

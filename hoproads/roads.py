@@ -76,9 +76,14 @@ def is_hop_form(value, places=MOST_PLACES):
     return isinstance(value[0], str) and is_from_to(value[1], 0, places - 1)
 
 
+def can_hop(row, value):
+    """Whether any value is a hop that can be done in a row."""
+    return is_hop_form(value) and value in hops_of(row)
+
+
 def check_hop(row, hop):
     """Raise InvalidHop for what is no hop that can be done in a row."""
-    if not is_hop_form(hop) or hop not in hops_of(row):
+    if not can_hop(row, hop):
         raise InvalidHop("a hop that can be done in the row is asked for")
 
 
@@ -141,8 +146,13 @@ def hop_rate(rates, hop):
     return rate_of(rates, hop)
 
 
+def away_at(row, rates):
+    """The sum of the rates of all hops that lead away from a row, at rates perhaps beyond the bounds."""
+    return total_of([rate_of(rates, hop) for hop in hops_of(row)])
+
+
 def rate_away(row, rates):
     """The sum of the rates of all hops that lead away from a row."""
     check_row(row)
     check_rates(rates)
-    return total_of([rate_of(rates, hop) for hop in hops_of(row)])
+    return away_at(row, rates)

@@ -2,7 +2,7 @@
 
 from hoproads.errors import InvalidShares
 from hoproads.plain import added, check_most, is_fraction, times, total_of
-from hoproads.roads import all_rows, check_places, check_rates, hopped, hops_of, rate_away, rate_of
+from hoproads.roads import all_rows, away_at, check_places, check_rates, hopped, hops_of, rate_of
 
 MOST_PLACES_OF_SHARES = 6
 
@@ -39,14 +39,19 @@ def are_steady(rates, places, shares):
     return unsteady_rows(rates, places, shares) == []
 
 
-def unsteady_rows(rates, places, shares):
-    """The ascending list of the rows for which what leads away and what leads to them differ."""
-    check_rates(rates)
-    check_shares(places, shares)
+def unsteady_at(rates, places, shares):
+    """The ascending list of the rows that are not steady, at rates perhaps beyond the bounds."""
     rows = all_rows(places)
     coming = {row: (0, 1) for row in rows}
     for row, share in zip(rows, shares):
         for hop in hops_of(row):
             behind = hopped(row, hop)
             coming[behind] = added(coming[behind], times(rate_of(rates, hop), share))
-    return [row for row, share in zip(rows, shares) if times(share, rate_away(row, rates)) != coming[row]]
+    return [row for row, share in zip(rows, shares) if times(share, away_at(row, rates)) != coming[row]]
+
+
+def unsteady_rows(rates, places, shares):
+    """The ascending list of the rows for which what leads away and what leads to them differ."""
+    check_rates(rates)
+    check_shares(places, shares)
+    return unsteady_at(rates, places, shares)

@@ -3,6 +3,8 @@
 import itertools
 
 from hoproads import errors
+from hoproads.lifebenches import Bench
+from hoproads.lifevalues import Road
 
 A, B, C = (1, 0), (0, 1, 0), (1, 0, 1, 0)
 R, S = ((1, 1), (1, 1), (0, 1)), ((1, 2), (2, 3), (1, 3))
@@ -35,6 +37,9 @@ STRAYS = [
     [], [0], [1, 0], [[]], [(1, 1), (1, 1), (0, 1)], ((),), ([],), (None,), (True,), (False,), (True, False),
     (0, 1, None), (0, "1"), (0, 1, 5), (-1, 0), (BIG,), ("on", 12), (0,) * 13, (1,) * 1000,
     nested(30), [nested(29)], errors.HopError("on"), errors.TooMany(6), (errors.InvalidRow("row"), 1),
+    # objects of the classes of this package, which can be compared, measured and asked for items, but not be keys
+    Road(A, S), Road((0,), R), Bench((A, (1, 2), 0, S)), (Road(A, S),), [Bench((B, (0, 0, 0), 2, R))],
+    (Road(A, S), Road(A, S)), (Road(A, S), 0, 1), ("on", Road(A, S)), (Road(A, S), 0), (Bench((A, (1, 2), 0, S)),) * 4,
 ]
 
 NO_INTEGERS = [value for value in STRAYS if not isinstance(value, int) or isinstance(value, bool)]

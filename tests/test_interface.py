@@ -80,6 +80,35 @@ INTERFACE = {
                  "ways_sum(waits, many)"],
     "gatechanges": ["gates_exchanged(waits, gate)", "cars_exchanged(waits, car)", "gates_led(waits, order)",
                     "cars_led(waits, order)", "totals_of(waits)"],
+    "rowfacts": ["are_facts(places, value)", "keeps_facts(row, facts)", "rows_keeping(places, facts)",
+                 "count_keeping(places, facts)", "places_left(places, facts)"],
+    "factshares": ["share_keeping(rates, places, facts)", "share_given(rates, places, facts, given)",
+                   "likeliest(rates, places, facts)", "mean_cars(rates, places, facts)"],
+    "ratestold": ["rates_told(places, shares)", "alike_rates(places, one, other)", "rates_by_flows(free, one, two)"],
+    "lookpapers": ["fewest_looks(places, facts)", "least_mean(rates, places, facts)",
+                   "look_paper(rates, places, facts)", "is_look_paper(places, facts, value)",
+                   "paper_mean(rates, places, facts, paper)"],
+    "lifesteps": ["is_state(value)", "is_step(value)", "is_script(value)", "seen_thing(state)", "stepped(state, step)",
+                  "all_stepped(state, script)", "step_back(state, step)", "script_to(one, other)",
+                  "script_home(state, script)", "steps_that_can(state, steps)", "way_rate(state, script)",
+                  "state_share(state)"],
+    "lifetexts": ["state_text(state)", "script_text(script)", "read_state(value)", "read_script(value)"],
+}
+
+# what stands in the body of each class itself: methods with their arguments, properties, class values
+CLASSES = {
+    "lifevalues": ("Road", ["__init__(self, row, rates)", "__rshift__(self, other)", "__lshift__(self, other)",
+                            "__invert__(self)", "__add__(self, other)", "__iadd__(self, other)",
+                            "__sub__(self, other)", "__xor__(self, other)", "__le__(self, other)",
+                            "__call__(self, hop)", "__getitem__(self, at)", "__contains__(self, x)",
+                            "__len__(self)", "__bool__(self)", "__str__(self)", "__iter__(self)",
+                            "__eq__(self, other)"],
+                   ["row", "rates", "cars", "away"], {"MOST": 12}),
+    "lifebenches": ("Bench", ["__init__(self, state)", "do(self, step)", "__iadd__(self, other)", "undo(self)",
+                              "redo(self)", "attempt(self, action)", "lines(self)", "__getitem__(self, at)",
+                              "__contains__(self, x)", "__len__(self)", "__bool__(self)", "__iter__(self)",
+                              "__eq__(self, other)"],
+                    ["state", "row", "marks", "place", "rates", "seen", "away", "log"], {"MOST": 60}),
 }
 
 WITH_MESSAGE = """
@@ -112,6 +141,33 @@ class Interface(unittest.TestCase):
             for name, value in vars(loaded).items():
                 if name in own and inspect.isfunction(value):
                     self.assertEqual(value.__module__, f"hoproads.{own[name]}", (path.stem, name))
+
+
+class Classes(unittest.TestCase):
+    def test_all_stands_in_the_class_itself(self):
+        for module, (name, methods, properties, values) in CLASSES.items():
+            some = getattr(importlib.import_module(f"hoproads.{module}"), name)
+            self.assertEqual((some.__name__, some.__module__, some.__bases__), (name, f"hoproads.{module}", (object,)))
+            for told in methods:
+                method = vars(some)[told.partition("(")[0]]
+                self.assertTrue(inspect.isfunction(method), told)
+                self.assertEqual(method.__name__ + str(inspect.signature(method)), told)
+            for told in properties:
+                self.assertIsInstance(vars(some)[told], property)
+                self.assertIsNone(vars(some)[told].fset)
+            self.assertEqual({told: vars(some)[told] for told in values}, values)
+
+    def test_a_class_method_and_a_generator(self):
+        road = importlib.import_module("hoproads.lifevalues").Road
+        self.assertIsInstance(vars(road)["read"], classmethod)
+        self.assertEqual(str(inspect.signature(road.read)), "(value)")
+        bench = importlib.import_module("hoproads.lifebenches").Bench
+        self.assertTrue(inspect.isgeneratorfunction(vars(bench)["lines"]))
+
+    def test_an_object_cannot_be_a_key(self):
+        road = importlib.import_module("hoproads.lifevalues").Road
+        with self.assertRaises(TypeError):
+            hash(road((1, 0), ((1, 1), (1, 1), (0, 1))))
 
 
 class Errors(unittest.TestCase):

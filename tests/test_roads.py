@@ -89,7 +89,7 @@ class Hops(unittest.TestCase):
         for row in rows_up_to(4):
             told = hops_told(row)
             for hop in SOME_HOPS + NO_HOPS:
-                plain = isinstance(hop, tuple) and len(hop) == 2 and type(hop[1]) is int
+                plain = isinstance(hop, tuple) and len(hop) == 2 and type(hop[0]) is str and type(hop[1]) is int
                 if plain and hop in told:
                     continue
                 for function in (hopped, hop_back):
