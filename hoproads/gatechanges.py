@@ -1,7 +1,7 @@
 """Neighbouring gates, and neighbouring cars, exchanged, so that all later times stay."""
 
 from hoproads.errors import InvalidSequence
-from hoproads.plain import is_from_to
+from hoproads.plain import is_integer
 from hoproads.waits import check_car, check_gate, check_waits
 
 
@@ -52,10 +52,10 @@ def cars_exchanged(waits, car):
 
 def check_sequence(many, order):
     """Raise InvalidSequence for what is not a tuple of all numbers from 0 to less than so many, each once."""
-    if not isinstance(order, tuple) or len(order) != many or not all([is_from_to(one, 0, many - 1) for one in order]):
-        raise InvalidSequence("a tuple of all numbers is asked for, each once")
+    if not isinstance(order, tuple) or len(order) != many or not all([is_integer(one) for one in order]):
+        raise InvalidSequence("a tuple of as many numbers is asked for")
     if not all([at in order for at in range(many)]):
-        raise InvalidSequence("a number does not stand in the tuple")
+        raise InvalidSequence("all numbers are asked for, each once")
 
 
 def rows_led(rows, order):

@@ -103,15 +103,14 @@ class Bench:
     def attempt(self, action):
         """Call a function with the bench; if it ends with an error, everything is as it was."""
         state, done, undone = self._state, self._done, self._undone
-        failed = True
         try:
             told = action(self)
-            failed = None
+            # it ended well, so what it has done stays
+            state, done, undone = self._state, self._done, self._undone
         finally:
-            if failed is not None:
-                self._state = state
-                self._done = done
-                self._undone = undone
+            self._state = state
+            self._done = done
+            self._undone = undone
         return told
 
     def lines(self):

@@ -1,14 +1,13 @@
 """States of a road, with marks, a place and rates, the steps that lead them on, and scripts of steps."""
 
 from hoproads.errors import InvalidScript, InvalidState, InvalidStep, Stuck, Unlike
-from hoproads.plain import check_most, is_from_to, times
+from hoproads.plain import is_from_to, times
 from hoproads.roads import MOST_PLACES, are_rates, can_hop, hop_back, hopped, is_row, rate_of
 from hoproads.stairs import mirrored_row
 from hoproads.steady import share_of
 
 MOST_STEPS = 30
 MOST_STEPS_TO_TRY = 60
-MOST_PLACES_OF_A_SHARE = 10
 MOST_MARK = 99
 # what stands behind the word of a step
 FORMS = {
@@ -277,7 +276,6 @@ def way_rate(state, script):
 
 
 def state_share(state):
-    """The steady share of the row of a state at its rates."""
+    """The steady share of the row of a state at its rates, of at most 10 places, as those of all rows."""
     check_state(state)
-    check_most(len(state[0]), MOST_PLACES_OF_A_SHARE)
     return share_of(state[3], state[0])

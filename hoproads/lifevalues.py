@@ -3,7 +3,7 @@
 from hoproads.errors import InvalidPlace, Unlike
 from hoproads.lifetexts import road_read, text_of_road
 from hoproads.plain import check_most
-from hoproads.roads import can_hop, check_hop, check_place, check_rates, check_row, hopped, rate_away
+from hoproads.roads import can_hop, check_place, check_rates, check_row, hopped, rate_away
 from hoproads.stairs import mirrored_row
 
 
@@ -47,15 +47,15 @@ class Road:
 
     def __call__(self, hop):
         """The road behind a hop that can be done."""
-        return Road(row_behind(self._row, hop), self._rates)
+        return Road(hopped(self._row, hop), self._rates)
 
     def __rshift__(self, other):
         """The road behind the hop of the car in a place on."""
-        return Road(row_behind(self._row, ("on", other)), self._rates)
+        return Road(hopped(self._row, ("on", other)), self._rates)
 
     def __lshift__(self, other):
         """The road behind the hop of the car in a place back."""
-        return Road(row_behind(self._row, ("back", other)), self._rates)
+        return Road(hopped(self._row, ("back", other)), self._rates)
 
     def __invert__(self):
         """The road mirrored, with its rates in and out exchanged."""
@@ -117,12 +117,6 @@ class Road:
     def __str__(self):
         """The text of two lines."""
         return str(text_of_road(self._row, self._rates))
-
-
-def row_behind(row, hop):
-    """The row behind a hop that can be done."""
-    check_hop(row, hop)
-    return hopped(row, hop)
 
 
 def row_joined(one, other):

@@ -2,7 +2,7 @@
 
 from hoproads.errors import InvalidShares
 from hoproads.plain import check_most, reduced, times, total_of
-from hoproads.queuelines import count_queue_lines, count_queue_lines_for, counts_by_wheel
+from hoproads.queuelines import count_queue_lines, counts_by_wheel
 from hoproads.shares import are_parts_of_one
 from hoproads.wheels import (MOST_PLACES_OF_LISTS, all_wheels, check_counts, check_sort, check_wheel, counts_of,
                              hop_places, sources_of)
@@ -12,7 +12,8 @@ def share_of_wheel(wheel):
     """The steady share of a wheel."""
     check_wheel(wheel)
     check_most(len(wheel), MOST_PLACES_OF_LISTS)
-    return reduced(count_queue_lines_for(wheel), count_queue_lines(counts_of(wheel)))
+    counts = counts_of(wheel)
+    return reduced(counts_by_wheel(counts)[wheel], count_queue_lines(counts))
 
 
 def steady_wheels(counts):

@@ -3,7 +3,7 @@
 from math import factorial
 
 from hoproads.errors import InvalidCounts, InvalidPlace, InvalidSort, InvalidWheel, TooFew
-from hoproads.plain import ascending, check_most, check_number, is_from_to
+from hoproads.plain import ascending, check_most, check_number, is_from_to, is_integer
 
 FEWEST_PLACES = 2
 MOST_PLACES = 8
@@ -92,7 +92,7 @@ def wheel_hops(wheel):
 def wheel_hopped(wheel, place):
     """The wheel behind the hop at a place."""
     check_wheel(wheel)
-    if not is_from_to(place, 0, len(wheel) - 1) or place not in hop_places(wheel):
+    if not is_integer(place) or place not in hop_places(wheel):
         raise InvalidPlace("a place at which there is a hop is asked for")
     return exchanged(wheel, place)
 

@@ -91,6 +91,35 @@ def defined(tree):
     return names + [target.id for node in tree.body if isinstance(node, ast.Assign) for target in node.targets]
 
 
+def is_plain_number(node):
+    """Whether an expression is plainly a number, which objects that compare by signs are not."""
+    if isinstance(node, ast.Constant):
+        return isinstance(node.value, int)
+    if isinstance(node, ast.Call):
+        return isinstance(node.func, ast.Name) and node.func.id in ("int", "len")
+    if isinstance(node, ast.BinOp):
+        return is_plain_number(node.left) and is_plain_number(node.right)
+    return False
+
+
+def rows_of(function):
+    """The statements of a function behind its docstring."""
+    return function.body[1:]
+
+
+def own_lists(function):
+    """The names that a function assigns nothing but new lists."""
+    made = {}
+    for node in ast.walk(function):
+        if isinstance(node, ast.Assign):
+            for target in node.targets:
+                if isinstance(target, ast.Name):
+                    called = isinstance(node.value, ast.Call) and isinstance(node.value.func, ast.Name)
+                    new = isinstance(node.value, (ast.List, ast.ListComp)) or called and node.value.func.id == "list"
+                    made[target.id] = made.get(target.id, True) and new
+    return {name for name, new in made.items() if new}
+
+
 class Language(unittest.TestCase):
     def test_files(self):
         self.assertLessEqual(len(files()), 100)
@@ -232,6 +261,90 @@ class Language(unittest.TestCase):
                 if isinstance(node, ast.Call) and isinstance(node.func, ast.Name):
                     # the order of objects that a later class can compare by signs must not be asked of these
                     self.assertNotIn(node.func.id, ("sorted", "set", "reversed", "map", "bytes"), (name, node.lineno))
+                    if node.func.id in ("min", "max"):
+                        first = node.args[0]
+                        if len(node.args) == 1:
+                            self.assertIsInstance(first, ast.ListComp, (name, node.lineno))
+                            self.assertTrue(is_plain_number(first.elt), (name, node.lineno))
+                        else:
+                            self.assertTrue(any(is_plain_number(some) for some in node.args), (name, node.lineno))
+
+    def test_underscores_are_not_read(self):
+        for name, tree in trees().items():
+            for node in ast.walk(tree):
+                if isinstance(node, ast.Name) and node.id == "_":
+                    self.assertIsInstance(node.ctx, ast.Store, (name, node.lineno))
+
+
+class Classes(unittest.TestCase):
+    def classes(self):
+        """The list of all pairs of a file and of a class that is no error."""
+        return [(name, node) for name, tree in trees().items() for node in tree.body
+                if isinstance(node, ast.ClassDef) and name != "errors"]
+
+    def test_there_are_two(self):
+        self.assertEqual(sorted(node.name for _, node in self.classes()), ["Bench", "Road"])
+
+    def test_bodies(self):
+        for name, some in self.classes():
+            self.assertEqual(some.decorator_list + some.bases + some.keywords, [])
+            for node in some.body[1:]:
+                self.assertIsInstance(node, (ast.FunctionDef, ast.Assign), (name, node.lineno))
+                if isinstance(node, ast.Assign):
+                    self.assertIsInstance(node.value, ast.Constant)
+            attributes = {node.attr for node in ast.walk(some) if isinstance(node, ast.Attribute)
+                          and isinstance(node.ctx, ast.Store)}
+            self.assertEqual(attributes & {function.name for function in functions(some)}, set())
+
+    def test_double_underscore_methods(self):
+        for name, some in self.classes():
+            methods = {function.name: function for function in functions(some)}
+            self.assertIn("__iter__", methods)
+            for row in rows_of(methods["__iter__"]):
+                self.assertIsInstance(row, ast.Raise)
+            told = {"__len__": "len(", "__bool__": "bool(", "__str__": "str(", "__eq__": f"isinstance(other, {some.name}) and "}
+            for method, start in told.items():
+                if method in methods:
+                    rows = rows_of(methods[method])
+                    self.assertEqual([type(row) for row in rows], [ast.Return])
+                    text = ast.unparse(rows[0].value)
+                    self.assertTrue(text.startswith(start) or method == "__bool__" and " in " in text, text)
+
+    def test_what_stands_in_a_finally(self):
+        for name, tree in trees().items():
+            for node in ast.walk(tree):
+                if isinstance(node, ast.Try):
+                    self.assertEqual((node.handlers, node.orelse), ([], []), (name, node.lineno))
+                    for row in node.finalbody:
+                        self.assertIsInstance(row, ast.Assign)
+                        self.assertIsInstance(row.value, ast.Name)
+
+    def test_operators_and_properties_change_nothing(self):
+        loaded = trees()
+        known = {node.name: node for tree in loaded.values() for node in tree.body if isinstance(node, ast.FunctionDef)}
+        free = ("__init__", "__iadd__", "__call__")
+        asked = [function for _, some in self.classes() for function in functions(some)
+                 if function.decorator_list and function.decorator_list[0].id == "property"
+                 or function.name.startswith("__") and function.name not in free]
+        seen = []
+        while asked:
+            function = asked.pop()
+            seen.append(function.name)
+            lists = own_lists(function)
+            for node in ast.walk(function):
+                if isinstance(node, (ast.Attribute, ast.Subscript)) and not isinstance(node.ctx, ast.Load):
+                    self.assertIsInstance(node, ast.Subscript, (function.name, node.lineno))
+                    self.assertIn(node.value.id, lists, (function.name, node.lineno))
+                if isinstance(node, ast.Call):
+                    called = node.func
+                    if isinstance(called, ast.Name):
+                        self.assertNotIn(called.id, parameters(function), (function.name, node.lineno))
+                        if called.id in known and called.id not in seen:
+                            asked.append(known[called.id])
+                    elif called.attr in ("append", "extend", "insert", "pop", "remove", "clear", "update", "setdefault", "reverse"):
+                        self.assertIn(called.value.id, lists, (function.name, node.lineno))
+        # what these run is not just the methods themselves
+        self.assertLessEqual({"hopped", "hops_of", "rate_away", "total_of", "text_of_road", "seen_in"}, set(seen))
 
 
 if __name__ == "__main__":

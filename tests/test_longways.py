@@ -23,7 +23,8 @@ NO_WAYS = STRAYS + [
     ((0, 0), (1, 0), (1, 1), (2, True)), ((False, 0),) + WAY[1:], ((0, 0), (1, 0), (1, 1), (3, 1)),
     ((0, 0), (1, 0), (1, 1), (1, 2)), ((0, 0), (1, 0), (1, 1), (2, 1, 0)), ((0, 0), (1, 0), (1, 1), (2,)),
     ((0, 0), (1, 0), (1, 1), None), ((0, 0), (1, 0), (1, 1), "21"), ((0, 0), (1, 0), (1, 1), ("2", 1)),
-    ((0, -1), (0, 0), (1, 0), (1, 1)), ((0, 0), (1, 0), (1, 1), (2, BIG)), ((0, 0), (0, -1), (1, -1), (1, 0)),
+    ((0, -1), (0, 0), (1, 0), (1, 1)), ((0, 0), (1, 0), (2, 0), (3, 0)), ((0, 0), (0, 1), (0, 2), (1, 2)),
+    ((0, 0), (0, 1), (1, 1), (1, 2)), ((-1, 0), (0, 0), (1, 0), (1, 1)), ((0, 0), (1, 0), (1, 1), (2, BIG)), ((0, 0), (0, -1), (1, -1), (1, 0)),
 ]
 
 
@@ -65,6 +66,11 @@ class Longest(unittest.TestCase):
         for value in NO_WAYS:
             self.assertIs(is_longest(V, value), False, value)
         self.assertIs(is_longest(V, WAY), True)
+        # where all waits are 0, all ways are longest, and what is none is no way
+        nothing = ((0, 0),) * 3
+        ways = [repr(way) for way in ways_told(3, 2)]
+        for value in NO_WAYS + [((0, 0), (0, 0), (1, 0), (1, 1)), ((0, 0), (1, 0), (2, 0), (2, 0)), ((0, 1), (1, 1), (2, 1), (2, 1))]:
+            self.assertIs(is_longest(nothing, value), repr(value) in ways, value)
         # whatever the way, all waits are 0
         self.assertIs(is_longest(EMPTY, tuple((0, gate) for gate in range(12)) + tuple((car, 11) for car in range(1, 12))), True)
         self.assertIs(is_longest(MOST, ((0, 0),)), True)

@@ -29,7 +29,7 @@ NO_PAPERS = STRAYS + [
     PAPER[:2] + (("look", 0, ("row", (0, 0)), ("row", (0, 1))), PAPER[3]),
     PAPER[:2] + (("look", 1, ("row", (0, 1)), ("row", (0, 0))), PAPER[3]),
     PAPER[:2] + (("look", 1, ("row", (0, 0))), PAPER[3]), PAPER[:2] + (PAPER[3], PAPER[3]), (PAPER,), ("none",) * 4,
-    ("look", 0, PAPER, NONE), ("look", 0, NONE, PAPER), ("look", (0,)) + PAPER[2:],
+    ("look", -1, ("look", 0, ("row", (0, 0)), ("row", (1, 0))), ("row", (0, 1))), ("look", 0, PAPER, NONE), ("look", 0, NONE, PAPER), ("look", (0,)) + PAPER[2:],
 ]
 
 

@@ -32,6 +32,7 @@ NO_QUEUE_LINES = STRAYS + [
     ([1, 0],), ((True, 0),), ((1, False),), ((1, None),), (("1", "0"),), ("10",), (1, 0), ((1, 0), None), (None, (1, 0)),
     ((1, 0) * 4 + (0,),), ((1, 0, 0), (0, 1, 1), (1, 1, 1)), ((BIG, 0),), ((1,) + (0,) * 9,), ((1, (0,)),),
     tuple((1,) * ones + (0,) * (8 - ones) for ones in range(1, 6)), tuple((1,) * ones + (0,) * (8 - ones) for ones in range(8)),
+    ((2, 0, 0),), ((1, -1, 1),), ((0, 2, 0), (1, 1, 1)), ((1, 0, 0), (1, 2, -1)), ((0, 1, 0, 0), (0, 2, 0, 0), (1, 1, 1, 0)),
     ((1, 0, 0), [1, 1, 0]), ((1, 0, 0), (1, 1, 0), ()),
 ]
 # no line behind the queue lines of the wheel (1, 2, 2, 3), which has three cars
@@ -40,6 +41,8 @@ NO_QUEUE_LINE = STRAYS + [
     (1, 1, True, 0), (1, 1, 1, False), (1, 1, 1, None), "1110", (1, 1, "1", 0), (2, 2, 2, -1), (1, 1, BIG, 0), (1, 1, (1,), 0),
     (1, 1, 1, 0),
 ]
+# lines whose items are not 0 and 1, though they come to as many as are asked for behind a wheel with two cars
+NO_ITEMS = [(2, 1, 0, 0), (0, 0, 0, 3), (1, 1, 2, -1), (-1, 2, 1, 1), (3, 0, 0, 0)]
 
 
 class AreQueueLines(unittest.TestCase):
@@ -222,7 +225,7 @@ class Wrong(unittest.TestCase):
             check_arguments(self, count_queue_lines_for, (wheel, InvalidWheel, NO_WHEELS))
 
     def test_errors_of_served_in_order(self):
-        lines = [line for line in NO_QUEUE_LINE if line != (1, 1, 1, 0)]
+        lines = [line for line in NO_QUEUE_LINE if line != (1, 1, 1, 0)] + NO_ITEMS
         check_arguments(self, served, ((1, 2, 3, 3), InvalidWheel, NO_WHEELS), ((1, 1, 1, 0), InvalidQueueLine, lines))
         for line in NO_QUEUE_LINE:
             check_error(self, InvalidQueueLine, served, ((1, 2, 2, 3), line))

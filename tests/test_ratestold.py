@@ -140,6 +140,16 @@ class Told(unittest.TestCase):
             # on a road of two places there are others with the same sum
             self.assertEqual(rates_told(2, shares_at((1, 1, back), 2)), ("sum", (1, 1), oracles.pair(2 + back)))
 
+    def test_in_and_out_below_0_are_no_rates(self):
+        for places in (3, 4):
+            shares = shares_at((-1, -1, 4), places)
+            self.assertTrue(all(top > 0 for top, _ in shares))
+            self.assertEqual(rates_told(places, shares), ("none",))
+            shares = shares_at((-1, -2, 6), places)
+            self.assertTrue(all(top > 0 for top, _ in shares))
+            self.assertEqual(rates_told(places, shares), ("none",))
+        self.assertEqual(told_by_equations(3, shares_at((-1, -1, 4), 3)), ("none",))
+
     def test_a_share_of_0(self):
         for places in (1, 2, 3):
             for at in range(2 ** places):
@@ -212,6 +222,11 @@ class Flows(unittest.TestCase):
             self.assertEqual(rates_by_flows(free, one, oracles.pair(most)), (rates[0], rates[1], (0, 1)))
             self.assertIs(rates_by_flows(free, one, oracles.pair(most + Fraction(1, 1000))), None)
             self.assertIs(rates_by_flows(free, one, (10 ** 9, 1)), None)
+
+    def test_back_just_below_0(self):
+        for back in (Fraction(-1, 1000), Fraction(-1, 2)):
+            weights = weights_of((Fraction(1), Fraction(1), back), 2)
+            self.assertIs(rates_by_flows((1, 2), (1, 2), oracles.pair(2 / sum(weights))), None)
 
     def test_tops_and_belows_of_10_to_the_9(self):
         free, one, two = (10 ** 9 - 1, 10 ** 9), (10 ** 9, 10 ** 9 - 1), (1, 10 ** 9)
